@@ -1,0 +1,1 @@
+"""Strandpull: ropes with slack that stretch, and break in waves."""

@@ -1,6 +1,7 @@
 """The kinds of values that everything else is made of: whole numbers, names, fractions."""
 
 MOST_LETTERS = 8
+NOUGHT = (0, 1)
 
 
 def is_whole(thing):
@@ -38,3 +39,28 @@ def fraction(top, bottom):
     """The fraction of that worth; top from 0 on, bottom from 1 on."""
     divisor = common_divisor(top, bottom)
     return (top // divisor, bottom // divisor)
+
+
+def is_more(one, other):
+    """Whether one fraction is worth more than another one."""
+    return one[0] * other[1] > other[0] * one[1]
+
+
+def plus(one, other):
+    """What two fractions are worth together: a fraction."""
+    return fraction(one[0] * other[1] + other[0] * one[1], one[1] * other[1])
+
+
+def minus(one, other):
+    """By how much one fraction is worth more than another one, that is no greater: a fraction."""
+    return fraction(one[0] * other[1] - other[0] * one[1], one[1] * other[1])
+
+
+def rising(fractions):
+    """The fractions by what they are worth, none twice: a list."""
+    # Over one common bottom they are in order just as their tops are.
+    common = 1
+    for top, bottom in fractions:
+        common = common // common_divisor(common, bottom) * bottom
+    tops = sorted({top * (common // bottom) for top, bottom in fractions})
+    return [fraction(top, common) for top in tops]

@@ -1,6 +1,6 @@
 """Ropes: what a bundle and a load are, how far a load sinks the bar, how hard each rope is pulled."""
 
-from strandpull.kinds import fraction, is_fraction, is_name, is_whole
+from strandpull.kinds import NOUGHT, fraction, is_fraction, is_name, is_whole, plus
 
 MOST_SLACK = 1000
 MOST_STIFF = 100
@@ -60,7 +60,7 @@ def sunk_by(left, load):
     """How far the load sinks a bar that hangs on these ropes, None where it falls."""
     top, bottom = load
     if top == 0:
-        return (0, 1)
+        return NOUGHT
     # The ropes are drawn in the order of their slacks; stiffness times slack is
     # what a drawn rope would pull more if it had no slack at all.
     sunk = None
@@ -90,6 +90,14 @@ def pull_at(rope, sunk):
     slack = rope[1]
     stiff = rope[2]
     if not is_drawn(slack, sunk):
-        return (0, 1)
+        return NOUGHT
     top, bottom = sunk
     return fraction(stiff * (top - slack * bottom), bottom)
+
+
+def pulled_at(ropes, sunk):
+    """What these ropes pull together where the bar has sunk so far: a fraction."""
+    together = NOUGHT
+    for rope in ropes:
+        together = plus(together, pull_at(rope, sunk))
+    return together

@@ -38,6 +38,11 @@ def by_loads(bundle, loads):
     return told
 
 
+def sunk_behind(bundle, load):
+    """How far the load sinks the bar behind its waves, nothing broken at first; None where it is not borne."""
+    return sinking(bundle, broken_by(bundle, (), load), load)
+
+
 def giving_way(left, load):
     """The names of those ropes that would pull more than their strength, rising: a tuple."""
     # No ropes, no sinking that they could be pulled at.

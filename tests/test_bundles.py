@@ -3,6 +3,7 @@
 import unittest
 
 from strandpull.ropes import is_bundle, is_load
+from tests.model import ANYTHING
 
 ROPE = ("a", 3, 2, 10)
 NAMES = ("a", "b", "c", "d", "e", "f", "g")
@@ -10,20 +11,6 @@ NAMES = ("a", "b", "c", "d", "e", "f", "g")
 
 def ropes(many):
     return tuple((name, 0, 1, 1) for name in NAMES[:many])
-
-
-def nested(inner, depth, wrap):
-    for _ in range(depth):
-        inner = wrap([inner])
-    return inner
-
-
-ANYTHING = (
-    None, True, False, 0, 1, -1, 10 ** 40, "", "a", "ab", "abcd", "a b\nc~", " " * 1000, [], (), [[]], ((),), ([],),
-    [()], (None,), (None, None), (True, False), (1,), (1, 2, 3), (1, 2, 3, 4), ("a",), ("a", "b"), ("a", "b", "c", "d"),
-    ["a", 0, 1, 1], [["a", 0, 1, 1]], (0,) * 300, [0] * 300, ((0, 1),), ((0, 1), (0, 1)), ([0], [1]), ((0,), (1,)),
-    nested((), 20, tuple), nested([], 20, list), nested(ROPE, 18, tuple), nested((1, 2), 19, list), 1.5, (1.0, 2.0),
-)
 
 
 class BundleTests(unittest.TestCase):

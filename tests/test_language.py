@@ -18,6 +18,7 @@ BARRED = set("""type typing typing_extensions enum Enum IntEnum StrEnum Flag Int
 UNUSED = set("""register mro elements open input law version_info with_traceback add_note attrgetter breakpoint builtins
     compile copyright credits delattr dir eval exec exit gc getattr globals hasattr help id importlib license locals
     methodcaller os quit setattr vars sys""".split())
+DOUBLE_UNDERSCORE = ("__init__", "__len__")
 KINDS_BARRED = (ast.Global, ast.AsyncFunctionDef, ast.Await, ast.AsyncFor, ast.AsyncWith, ast.Div, ast.Import)
 
 
@@ -42,6 +43,29 @@ def bound(tree):
         elif isinstance(node, ast.alias):
             names.add(node.asname or node.name)
     return names
+
+
+def defined_in(tree):
+    """Every name that a file defines itself at module level."""
+    names = {node.name for node in tree.body if hasattr(node, "name")}
+    return names | {target.id for node in tree.body if isinstance(node, ast.Assign) for target in node.targets}
+
+
+def imports_of(tree):
+    return {node.module.partition(".")[2] for node in tree.body if isinstance(node, ast.ImportFrom)}
+
+
+def methods_and_attributes():
+    """The names of all methods, and those of all attributes that are assigned."""
+    methods = set()
+    attributes = set()
+    for _, tree in trees():
+        for node in ast.walk(tree):
+            if isinstance(node, ast.ClassDef):
+                methods |= {part.name for part in node.body if isinstance(part, ast.FunctionDef)}
+            if isinstance(node, ast.Attribute) and isinstance(node.ctx, ast.Store):
+                attributes.add(node.attr)
+    return methods, attributes
 
 
 class LanguageTests(unittest.TestCase):
@@ -70,7 +94,7 @@ class LanguageTests(unittest.TestCase):
             self.assertEqual(words & BARRED, set(), path.name)
 
     def test_imports_are_of_the_package_and_from_the_file_that_defines(self):
-        defined = {name[:-3]: {node.name for node in tree.body if hasattr(node, "name")} for name, tree in trees()}
+        defined = {name[:-3]: defined_in(tree) for name, tree in trees()}
         for name, tree in trees():
             for node in ast.walk(tree):
                 if isinstance(node, ast.ImportFrom):
@@ -80,11 +104,53 @@ class LanguageTests(unittest.TestCase):
                     for alias in node.names:
                         self.assertIn(alias.name, defined[module], name)
 
+    def test_no_two_files_import_from_each_other(self):
+        waiting = {name[:-3]: imports_of(tree) for name, tree in trees()}
+        while waiting:
+            free = [name for name in waiting if not waiting[name] & set(waiting)]
+            self.assertTrue(free, sorted(waiting))
+            for name in free:
+                del waiting[name]
+
+    def test_a_name_is_bound_once_at_module_level(self):
+        for name, tree in trees():
+            words = sorted(defined_in(tree)) + [alias.name for node in tree.body if isinstance(node, ast.ImportFrom)
+                                                for alias in node.names]
+            self.assertEqual(len(words), len(set(words)), name)
+
+    def test_no_name_is_both_a_method_and_an_attribute(self):
+        methods, attributes = methods_and_attributes()
+        self.assertEqual(methods & attributes, set())
+        for kind in (str, int, list, dict, set, bytes, tuple):
+            self.assertEqual((methods - set(DOUBLE_UNDERSCORE) | attributes) & set(dir(kind)), set())
+
+    def test_each_attribute_that_is_read_is_assigned_or_a_method(self):
+        methods, attributes = methods_and_attributes()
+        for name, tree in trees():
+            for node in ast.walk(tree):
+                if isinstance(node, ast.Attribute):
+                    self.assertIn(node.attr, METHODS | methods | attributes, name)
+
+    def test_a_finally_assigns_simple_values_alone(self):
+        for name, tree in trees():
+            for node in ast.walk(tree):
+                if isinstance(node, ast.Try):
+                    for row in node.finalbody:
+                        self.assertIsInstance(row, ast.Assign, name)
+                        self.assertIsInstance(row.value, ast.Constant, name)
+
+    def test_what_is_raised_is_made_on_the_spot(self):
+        for name, tree in trees():
+            for node in ast.walk(tree):
+                if isinstance(node, ast.Raise):
+                    self.assertIsInstance(node.exc, ast.Call, name)
+                    self.assertIsInstance(node.exc.func, ast.Name, name)
+
     def test_names(self):
         for name, tree in trees():
             for word in bound(tree):
                 self.assertNotIn(word, BUILTINS | UNUSED, name)
-                self.assertTrue(not word.startswith("_") or word == "__init__", (name, word))
+                self.assertTrue(not word.startswith("_") or word in DOUBLE_UNDERSCORE, (name, word))
 
     def test_only_allowed_builtins_and_methods_are_used(self):
         own = {word for _, tree in trees() for word in bound(tree)}

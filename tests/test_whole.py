@@ -1,25 +1,85 @@
-"""What holds over sinkings, pulls and waves as a whole, points [3] and [2]: no order matters, nothing is shared."""
+"""What holds over the program as a whole, points [3] and [2]: no order matters, nothing is shared."""
 
 import copy
 import unittest
 from itertools import permutations
 
+from strandpull.chains import chain_sinks, parting, weakest
+from strandpull.errors import PullError
+from strandpull.growing import greatest, steps, table
+from strandpull.others import fewest_doubled, guards, unseen, whole_till
 from strandpull.ropes import is_bundle, is_load, pulls, sinking
 from strandpull.waves import bears, broken_by, by_loads, waves
-from tests.model import cases, ends_one_by_one, pair, worth
+from strandpull.works import Works
+from tests.model import bundles, cases, ends_one_by_one, left_of, pair, worth
 
 BUNDLE = (("a", 0, 2, 10), ("b", 3, 1, 5), ("c", 3, 1, 60))
 
 
-def times(told, many):
-    return pair(worth(told) * many)
-
-
 def answers(bundle, broken, load):
-    """All that is told of a bundle with some broken and a load."""
-    return [is_bundle(bundle), is_load(load), sinking(bundle, broken, load), pulls(bundle, broken, load),
-            waves(bundle, broken, load), broken_by(bundle, broken, load), bears(bundle, broken, load),
-            by_loads(bundle, [load, (1, 1), load])]
+    """All that is told of a bundle with some broken and a load, by what it is: loads, sinkings, or neither."""
+    names = [rope[0] for rope in bundle]
+    left = [rope[0] for rope in left_of(bundle, broken)]
+    sunk = sinking(bundle, (), load)
+    slacks = [unseen(bundle, name, load, sunk) for name in names]
+    rows = by_loads(bundle, [load, heavier(load), load])
+    chain = (bundle, bundle, bundle[:1])
+    loads = [pulls(bundle, broken, load), [borne for _, borne in table(bundle)], greatest(bundle)[0],
+             [step for step, _ in steps(bundle)], [whole_till(bundle, broken, name) for name in left],
+             weakest(chain)[0], [parting(bundle, bundle[at:]) for at in range(len(bundle))]]
+    sinkings = [sinking(bundle, broken, load), [row[1] for row in rows], [end for end, _ in table(bundle)],
+                greatest(bundle)[1], slacks, chain_sinks(chain, load), chain_sinks((bundle,), lighter(bundle))]
+    neither = [is_load(load), waves(bundle, broken, load), broken_by(bundle, broken, load),
+               bears(bundle, broken, load), [row[0] for row in rows], [gone for _, gone in steps(bundle)],
+               guards(bundle), fewest_doubled(bundle, load), fewest_doubled(bundle, heavier(load)), weakest(chain)[1]]
+    return loads, sinkings, neither
+
+
+def heavier(load):
+    return pair(worth(load) * 3 / 2)
+
+
+def lighter(bundle):
+    return pair(worth(greatest(bundle)[0]) * 4 / 5)
+
+
+def worked(bundle, load):
+    """All that is told of a works with the ropes of a bundle, by what it is: loads, sinkings, or neither."""
+    works = Works()
+    for rope in bundle:
+        works.put(rope)
+    loads, sinkings, neither = [], [], []
+    for hung in (lighter(bundle), load, (0, 1), load, heavier(load)):
+        neither.append(hang_or_refusal(works, hung))
+        for name in works.broken()[:1]:
+            neither.append(splice_or_refusal(works, name))
+        loads.append((works.load(), [told for told, _ in works.log()]))
+        sinkings.append(works.sinking())
+        neither.append((works.broken(), [gone for _, gone in works.log()], works.fell(), len(works)))
+    return loads, sinkings, neither
+
+
+def hang_or_refusal(works, load):
+    try:
+        return works.hang(load)
+    except PullError as refusal:
+        return type(refusal)
+
+
+def splice_or_refusal(works, name):
+    try:
+        return works.splice(name)
+    except PullError as refusal:
+        return type(refusal)
+
+
+def times(told, many):
+    """What was told with each fraction in it so many times as great."""
+    if is_load(told):
+        return pair(worth(told) * many)
+    if isinstance(told, (list, tuple)):
+        return type(told)([times(part, many) for part in told])
+    return told
 
 
 class OrderTests(unittest.TestCase):
@@ -81,25 +141,64 @@ class OrderTests(unittest.TestCase):
             self.assertGreater(many, 20)
 
 
-class ScaleTests(unittest.TestCase):
-    def test_stiffnesses_strengths_and_loads_so_many_times_as_great(self):
-        for bundle, broken, load in cases(35, 200):
+class GreatestTests(unittest.TestCase):
+    def test_none_above_the_told_greatest_is_borne_and_each_lesser_one_is(self):
+        for bundle, _, load in cases(38, 300):
+            with self.subTest((bundle, load)):
+                most = greatest(bundle)[0]
+                self.assertEqual(bears(bundle, (), load), worth(load) <= worth(most))
+                self.assertIs(bears(bundle, (), most), True)
+                self.assertIn(most, [borne for _, borne in table(bundle)])
+                self.assertEqual(worth(most), max(worth(borne) for _, borne in table(bundle)))
+
+    def test_a_rope_gone_never_lets_another_one_bear_more(self):
+        for bundle, broken, load in cases(39, 300):
             with self.subTest((bundle, broken, load)):
-                great = tuple((name, slack, 7 * stiff, 7 * strong) for name, slack, stiff, strong in bundle)
-                heavy = times(load, 7)
-                self.assertEqual(sinking(great, broken, heavy), sinking(bundle, broken, load))
-                self.assertEqual(pulls(great, broken, heavy),
-                                 [(name, times(part, 7)) for name, part in pulls(bundle, broken, load)])
-                self.assertEqual(waves(great, broken, heavy), waves(bundle, broken, load))
+                more = broken_by(bundle, broken, load)
+                for name in [rope[0] for rope in left_of(bundle, more)]:
+                    self.assertLessEqual(worth(whole_till(bundle, more, name)),
+                                         worth(whole_till(bundle, broken, name)))
+                    self.assertGreaterEqual(worth(whole_till(bundle, broken, name)), worth(load))
+
+
+class ScaleTests(unittest.TestCase):
+    def great(self, bundle, at, many):
+        """The bundle with the parts at these places so many times as great."""
+        told = tuple(tuple(part * many if place in at else part for place, part in enumerate(rope)) for rope in bundle)
+        self.assertTrue(is_bundle(told))
+        return told
+
+    def test_stiffnesses_strengths_and_loads_so_many_times_as_great(self):
+        for bundle, broken, load in cases(35, 150):
+            for many in (2, 7):
+                with self.subTest((bundle, broken, load, many)):
+                    great = self.great(bundle, (2, 3), many)
+                    for ask in (answers, lambda ropes, gone, hung: worked(ropes, hung)):
+                        loads, sinkings, neither = ask(bundle, broken, load)
+                        told = ask(great, broken, times(load, many))
+                        self.assertEqual(told, (times(loads, many), sinkings, neither))
 
     def test_slacks_strengths_and_loads_so_many_times_as_great(self):
-        for bundle, broken, load in cases(36, 200):
-            with self.subTest((bundle, broken, load)):
-                great = tuple((name, 7 * slack, stiff, 7 * strong) for name, slack, stiff, strong in bundle)
-                heavy = times(load, 7)
-                sunk = sinking(bundle, broken, load)
-                self.assertEqual(sinking(great, broken, heavy), None if sunk is None else times(sunk, 7))
-                self.assertEqual(waves(great, broken, heavy), waves(bundle, broken, load))
+        for bundle, broken, load in cases(36, 150):
+            for many in (2, 7):
+                with self.subTest((bundle, broken, load, many)):
+                    great = self.great(bundle, (1, 3), many)
+                    for ask in (answers, lambda ropes, gone, hung: worked(ropes, hung)):
+                        loads, sinkings, neither = ask(bundle, broken, load)
+                        told = ask(great, broken, times(load, many))
+                        self.assertEqual(told, (times(loads, many), times(sinkings, many), neither))
+
+    def test_ropes_drawn_tighter_so_many_times_as_much(self):
+        for bundle in bundles(30, 60):
+            one = Works()
+            other = Works()
+            for rope, great in zip(bundle, self.great(bundle, (1, 3), 5)):
+                one.put(rope)
+                other.put(great)
+                if rope[1] > 2:
+                    one.tighten(rope[0], rope[1] - 2)
+                    other.tighten(rope[0], (rope[1] - 2) * 5)
+            self.assertEqual(other.ropes(), self.great(one.ropes(), (1, 3), 5))
 
 
 class OwnTests(unittest.TestCase):
@@ -108,6 +207,9 @@ class OwnTests(unittest.TestCase):
         kept = copy.deepcopy(loads)
         by_loads(BUNDLE, loads)
         self.assertEqual(loads, kept)
+        told = copy.deepcopy(BUNDLE)
+        answers(told, ("b",), (9, 1))
+        self.assertEqual(told, BUNDLE)
         thing = [["a", 0, 1, 1], [1, 2], "a"]
         kept = copy.deepcopy(thing)
         is_bundle(thing)
@@ -124,7 +226,9 @@ class OwnTests(unittest.TestCase):
     def test_a_list_that_was_told_is_the_askers_own(self):
         for ask in (lambda: pulls(BUNDLE, (), (30, 1)), lambda: pulls(BUNDLE, ("a", "b", "c"), (30, 1)),
                     lambda: waves(BUNDLE, (), (30, 1)), lambda: waves(BUNDLE, (), (1, 1)),
-                    lambda: by_loads(BUNDLE, [(30, 1), (1, 1)]), lambda: by_loads(BUNDLE, [])):
+                    lambda: by_loads(BUNDLE, [(30, 1), (1, 1)]), lambda: by_loads(BUNDLE, []),
+                    lambda: steps(BUNDLE), lambda: guards(BUNDLE), lambda: guards(BUNDLE[:1]),
+                    lambda: chain_sinks((BUNDLE, BUNDLE), (9, 1))):
             told = ask()
             kept = copy.deepcopy(told)
             other = ask()
@@ -150,11 +254,27 @@ class OwnTests(unittest.TestCase):
             self.assertIsInstance(row, tuple)
             self.assertIsInstance(row[0], tuple)
 
+    def test_the_kinds_of_all_the_rest(self):
+        for told in (table(BUNDLE), greatest(BUNDLE), whole_till(BUNDLE, (), "a"), unseen(BUNDLE, "c", (9, 1), (4, 1)),
+                     fewest_doubled(BUNDLE, (9, 1)), fewest_doubled(BUNDLE, (70, 1)), weakest((BUNDLE,)),
+                     parting(BUNDLE, BUNDLE[:1]), *table(BUNDLE), *steps(BUNDLE), *guards(BUNDLE)):
+            self.assertIsInstance(told, tuple)
+        for told in (steps(BUNDLE), guards(BUNDLE), chain_sinks((BUNDLE,), (9, 1))):
+            self.assertIsInstance(told, list)
+        for told in (*greatest(BUNDLE), whole_till(BUNDLE, (), "a"), parting(BUNDLE, BUNDLE[:1]),
+                     weakest((BUNDLE,))[0], *chain_sinks((BUNDLE,), (9, 1)), *[step for step, _ in steps(BUNDLE)]):
+            self.assertTrue(is_load(told))
+        self.assertIs(type(weakest((BUNDLE,))[1]), int)
+
     def test_each_function_is_defined_in_its_file(self):
-        for function in (is_bundle, is_load, sinking, pulls):
-            self.assertEqual(function.__module__, "strandpull.ropes")
-        for function in (waves, broken_by, bears, by_loads):
-            self.assertEqual(function.__module__, "strandpull.waves")
+        for file, functions in (("ropes", (is_bundle, is_load, sinking, pulls)),
+                                ("waves", (waves, broken_by, bears, by_loads)),
+                                ("growing", (table, greatest, steps)),
+                                ("others", (whole_till, guards, unseen, fewest_doubled)),
+                                ("chains", (chain_sinks, weakest, parting)),
+                                ("works", (Works,))):
+            for function in functions:
+                self.assertEqual(function.__module__, "strandpull." + file)
 
     def test_what_was_told_may_be_handed_in_again(self):
         load = pair(worth((10 ** 40 - 1, 10 ** 39 + 7)))
